@@ -1,20 +1,13 @@
 """The rules of books that speak of properties, partners, digits, scripts and weights."""
 
-from seekmarks.book import (
-    BRACKET, CLUSTER, CONJUNCT, DIGIT, DIRECTION, MIRROR, PARTNER, PICTOGRAPHIC)
+from seekmarks.book import BRACKET, CLUSTER, CONJUNCT, DIGIT, DIRECTION, MIRROR, PARTNER, PICTOGRAPHIC
+from seekmarks.clusters import CONJUNCT_EXTEND, CONSONANT, EXTEND, LINKER, SPACING, V, ZWJ
 from seekmarks.scalars import is_scalar
 
 CASED = 2
 MIRRORED = 13
 OTHER_NEUTRAL = 13
 UNNAMED_SCRIPTS = 3
-CLUSTER_EXTEND = 4
-CLUSTER_ZWJ = 5
-CLUSTER_SPACING = 8
-CLUSTER_V = 10
-LINKER = 1
-CONSONANT = 2
-CONJUNCT_EXTEND = 3
 
 
 def has_bit(value, bit):
@@ -64,7 +57,7 @@ def flags_fit(book, first, last, value):
 
 
 def marks_extend(book, first, last, value):
-    if book.values_over(CLUSTER, first, last) != [CLUSTER_EXTEND]:
+    if book.values_over(CLUSTER, first, last) != [EXTEND]:
         return False
     return CONSONANT not in book.values_over(CONJUNCT, first, last)
 
@@ -81,9 +74,9 @@ def classes_as_first(book, scalar, row):
 
 def second_fits(book, first, second):
     cluster = book.value_at(CLUSTER, first)
-    if cluster not in (0, CLUSTER_EXTEND, CLUSTER_SPACING, CLUSTER_V):
+    if cluster not in (0, EXTEND, SPACING, V):
         return False
-    if book.value_at(CLUSTER, second) != (CLUSTER_V if cluster == CLUSTER_V else CLUSTER_EXTEND):
+    if book.value_at(CLUSTER, second) != (V if cluster == V else EXTEND):
         return False
     conjunct = book.value_at(CONJUNCT, first)
     if conjunct in (CONSONANT, CONJUNCT_EXTEND):
@@ -127,7 +120,7 @@ def conjuncts_fit(book, first, last, value):
     clusters = book.values_over(CLUSTER, first, last)
     if value == CONSONANT:
         return clusters == [0]
-    return all([cluster in (CLUSTER_EXTEND, CLUSTER_ZWJ) for cluster in clusters])
+    return all([cluster in (EXTEND, ZWJ) for cluster in clusters])
 
 
 def pictures_fit(book, first, last, value):

@@ -62,6 +62,15 @@ class ClusterTest(unittest.TestCase):
         self.assertEqual(borders(BOOK, 1, [0xAC1B, 0x1161]), [0, 1, 2])
         self.assertEqual(borders(BOOK, 1, [0xAC1C, 0x1161]), [0, 2])
 
+    def test_other_scalars_of_hangul_classes(self):
+        classes = {9: "L", 10: "V", 11: "T", 12: "W", 13: "X"}
+        rows = written({2: {0xA900 + number: number for number in classes}})
+        for a in classes:
+            for b in classes:
+                wanted = clusters(classes[a] + classes[b])
+                self.assertEqual(borders(rows, 1, [0xA900 + a, 0xA900 + b]), wanted)
+                self.assertEqual(borders(rows, 1, text(classes[a]) + [0xA900 + b]), wanted)
+
     def test_hangul_is_no_consonant_and_no_picture(self):
         self.held("Lk", "C")
         self.held("Ck", "W")
@@ -128,8 +137,9 @@ class ClusterTest(unittest.TestCase):
 
     def test_random_texts(self):
         chance = random.Random(5)
-        for size in [3, 4, 5, 6] * 60 + [12] * 40:
-            letters = "".join(chance.choice("orncieejkkzIpsLVTWXGC") for k in range(size))
+        for size in [3, 4, 5, 6] * 150 + [12] * 60:
+            some = chance.sample("orncieejkkzIpsLVTWXGC", 5)
+            letters = "".join(chance.choice(some) for k in range(size))
             self.assertEqual(borders(BOOK, 1, text(letters)), clusters(letters), letters)
 
     def test_places_are_whole_clusters(self):

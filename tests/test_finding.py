@@ -95,6 +95,14 @@ class PlacesTest(unittest.TestCase):
                        every([E, DOT, ACUTE], [E_ACUTE, DOT], like=0), every([E, ACUTE, ACUTE, DOT], [E, ACUTE, DOT, ACUTE], like=1))
         self.assertEqual([pairs(answer) for answer in found], [[(0, 3)], [(0, 2)], [], [(0, 4)]])
 
+    def test_marks_of_each_class_move(self):
+        for low, high in ((1, 2), (1, 254), (253, 254), (9, 10)):
+            rows = written({0: {0x301: low, 0x302: high}, 2: {(0x301, 0x302): 4}})
+            found = ask_by(rows, every([A, 0x301, 0x302], [A, 0x302, 0x301], like=1), every([A, 0x302, 0x301], [A, 0x301, 0x302], like=3))
+            self.assertEqual([pairs(answer) for answer in found], [[(0, 3)], [(0, 3)]])
+        rows = written({0: {(0x301, 0x302): 9}, 2: {(0x301, 0x302): 4}})
+        self.assertEqual(pairs(ask_by(rows, every([A, 0x301, 0x302], [A, 0x302, 0x301], like=1))[0]), [])
+
     def test_marks_do_not_pass_letters(self):
         found = ask_by(BOOK, every([ACUTE, A, DOT], [DOT, A, ACUTE], like=1), every([ACUTE, DOT], [DOT, ACUTE], like=1))
         self.assertEqual([pairs(answer) for answer in found], [[], [(0, 2)]])

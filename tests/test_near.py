@@ -18,6 +18,8 @@ class NearTest(unittest.TestCase):
     def test_of_one_end_the_least_distance(self):
         # Up to 3: "ab" from 1 is 1 away, "xab" 2 away, "b" 2 away.
         self.assertEqual(ask(near("abc", "xab", limit=1)), [[1, 1, 3, 1]])
+        # Up to 4: "xbcd" is 3 away, "bcd" 4 away, though it begins later.
+        self.assertEqual(ask(near("abcd", "xbcd", gap=4, other=3, limit=5)), [[1, 0, 4, 3]])
         # Up to 2: "b" alone is 2 away, "ab" 1 away.
         self.assertEqual(ask(near("abc", "ab", gap=1, other=9, limit=1)), [[1, 0, 2, 1]])
 

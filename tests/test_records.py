@@ -165,6 +165,9 @@ class SequencesTest(unittest.TestCase):
         self.assertEqual(sequences([1, 2, 65, 66, 1]), [-5, 6, 0])
         self.assertEqual(sequences([0, 2, 65, 66, 3, 1, 1]), [-5, 6, 0])
         self.assertEqual(sequences([1, 2, 65, 66, 1, 1], [1]), [-5, 6, 1])
+        self.assertEqual(sequences([1, 2, 65, 66, 1, 1], [1, 2, 67]), [-5, 6, 1])
+        self.assertEqual(sequences([1, 2, 65, 66, 1, 1], [1, 2, 67, 68]), [-5, 6, 1])
+        self.assertEqual(sequences([1, 2, 65, 66, 1, 1], [1, 2, 67, 68, 1]), [-5, 6, 1])
 
     def test_rule_14_lengths(self):
         for kind, least, most in ((0, 2, 18), (1, 1, 32), (2, 2, 32)):
@@ -269,6 +272,7 @@ class WalkedTest(unittest.TestCase):
     def test_other_properties_may_go_far(self):
         for number in (1, 2, 4, 5, 6, 7, 8, 12):
             self.assertEqual(properties([number, 0, 1114111, 1]), [0])
+        self.assertEqual(properties([12, 0, 1114111, 1 << 12]), [0])
 
     def test_rule_17_stands_behind_the_rows(self):
         wide = [0, 0x20000, 0x22000, 1]

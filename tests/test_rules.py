@@ -105,6 +105,13 @@ class TakingApartTest(RulesTest):
         self.taken(marks(230, 0), rows)
         self.taken(marks(0, 220), rows)
 
+    def test_22_of_the_first_too(self):
+        for first, second in ((230, 220), (2, 1)):
+            properties = {0: {M1: first, M2: second, M3: first}, 2: {(M1, M3): 4, 200: 4}, 13: {200: ALWAYS}}
+            self.broken(22, 0, properties, {0: {200: (M1, M2)}})
+            self.taken(properties, {0: {200: (M2, M1)}})
+            self.taken(properties, {0: {200: (M1, M3)}})
+
     def test_22_first_of_several(self):
         properties = {0: {M1: 230, M2: 220}, 2: {M1: 4, M2: 4}}
         self.broken(22, 1, properties, {0: {199: (66, M1), 201: (300, M2), 202: (199, M2), 300: (65, M1)}})
@@ -153,6 +160,7 @@ class TakingApartTest(RulesTest):
         self.taken({**marks, 13: {200: ALWAYS}}, {0: {200: (65, M1), 201: (65, M1)}})
         self.taken({**marks, 13: {201: ALWAYS}}, {0: {200: (65, M1), 201: (65, M1)}})
         self.taken(marks, {0: {200: (65, M1), 201: (66, M1)}})
+        self.taken(marks, {0: {200: (65, M1)}, 1: {201: (65, M1)}, 5: {202: (65, M1)}})
 
     def test_24_classes(self):
         extends = {2: {200: 4, 201: 4, M1: 4}}
@@ -176,6 +184,7 @@ class FoldingTest(RulesTest):
         self.broken(25, 1, {2: {M1: 4}}, {0: {200: (66, M1)}, 5: {65: (200,), 66: (67,)}})
         self.broken(25, 1, {2: {M1: 4}}, {0: {200: (66, M1)}, 5: {65: (200,), M1: (67,)}})
         self.taken({2: {M1: 4}}, {0: {200: (68, M1)}, 5: {65: (200,), 66: (67,)}})
+        self.broken(25, 1, {2: {M1: 4}}, {0: {200: (68, M1)}, 5: {65: (200,), 200: (69,)}})
         self.broken(25, 1, {}, {5: {0x1161: (66,), 0xE000: (0xAC00,)}})
         self.taken({}, {5: {0x1162: (66,), 0xE000: (0xAC00,)}})
 
@@ -252,6 +261,11 @@ class PartnersTest(RulesTest):
         rows = {8: {0xD7FF: (0xE000,), 0xE000: (0xD7FF,)}}
         self.assertEqual(judged((
             [8, 0xD7FF, 0xE000, 13, 9, 0xD7FF, 0xD7FF, 1, 9, 0xE000, 0xE000, 2], maps_row(rows), [], [])), TAKEN)
+        rows = {8: {40: (0xD7FF,), 60: (0xE000,), 0xD7FF: (40,), 0xE000: (60,)}}
+        self.assertEqual(judged((
+            [8, 40, 40, 13, 8, 60, 60, 13, 8, 0xD7FF, 0xE000, 13, 9, 40, 40, 2, 9, 60, 60, 2, 9, 0xD7FF, 0xE000, 1],
+            maps_row(rows), [], [])), TAKEN)
+        rows = {8: {0xD7FF: (0xE000,), 0xE000: (0xD7FF,)}}
         # One range of both: what lies between has no value and needs no partner, but both would open.
         self.assertEqual(judged(([8, 0xD7FF, 0xE000, 13, 9, 0xD7FF, 0xE000, 1], maps_row(rows), [], [])), [-5, 27, 0])
 
@@ -437,11 +451,12 @@ class WeightsTest(RulesTest):
         full, alone = weights(7, 1, 1), weights(7, 0, 0)
         for row in ((full,), (weights(0, 1, 1),), (weights(0, 0, 1),), (0,), (weights(7, 1, 1, 1),), (full, alone),
                     (weights(0, 0, 1), alone), (0, alone), (full, alone, alone), (weights(7, 1, 1, 1), weights(7, 0, 0, 1)),
-                    (weights(65535, 1023, 31, 1),), (weights(0, 1, 1), full)):
+                    (weights(65535, 1023, 31, 1),), (weights(0, 1, 1), full), (full, weights(1, 0, 0)), (weights(1, 1, 1, 1),)):
             self.held_both(TAKEN, row)
         for row in ((alone,), (weights(7, 1, 0),), (weights(7, 0, 1),), (weights(0, 1, 0),), (weights(0, 1, 1, 1),),
                     (weights(0, 0, 1, 1),), (weights(0, 0, 0, 1),), (full, weights(7, 0, 0, 1)),
-                    (weights(7, 1, 1, 1), alone), (alone, full), (full, weights(7, 1, 0)), (weights(7, 0, 0, 1),)):
+                    (weights(7, 1, 1, 1), alone), (alone, full), (full, weights(7, 1, 0)), (full, weights(7, 0, 1)), (full, weights(0, 1, 0)),
+                    (weights(7, 0, 0, 1),)):
             self.held_both([-5, 34, 1], row)
 
     def test_34_clause_by_clause(self):

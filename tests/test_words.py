@@ -11,13 +11,15 @@ NAMES = ("other", "CR", "LF", "NL", "Ex", "ZWJ", "Fo", "RI", "Ka", "HL", "AL", "
 FIRST = 0x100
 PICTURE = 0x200
 PICTURE_LETTER = 0x201
+PICTURE_LINE = 0x202
 BOOK = written({
-    4: {**{FIRST + number: number for number in range(1, 19)}, PICTURE_LETTER: 10, 0xAC00: 10},
-    13: {PICTURE: flags(12), PICTURE_LETTER: flags(12), (0xAC00, 0xAC01): flags(12), 0x1100: flags(12)}})
+    4: {**{FIRST + number: number for number in range(1, 19)}, PICTURE_LETTER: 10, PICTURE_LINE: 3, 0xAC00: 10},
+    13: {PICTURE: flags(12), PICTURE_LETTER: flags(12), PICTURE_LINE: flags(12), (0xAC00, 0xAC01): flags(12), 0x1100: flags(12)}})
 
 
 def scalar(name):
-    return {"Pic": PICTURE, "PicAL": PICTURE_LETTER}[name] if name.startswith("Pic") else FIRST + NAMES.index(name)
+    pictures = {"Pic": PICTURE, "PicAL": PICTURE_LETTER, "PicNL": PICTURE_LINE}
+    return pictures[name] if name in pictures else FIRST + NAMES.index(name)
 
 
 class WordTest(unittest.TestCase):
@@ -37,7 +39,7 @@ class WordTest(unittest.TestCase):
 
     def test_pictures_and_spaces(self):
         for each in ("ZWJ Pic", "AL ZWJ Pic", "other ZWJ Pic", "ZWJ Ex | Pic", "Ex | Pic", "Pic | Pic", "ZWJ | other",
-                     "WS WS WS", "WS Ex | WS", "WS | AL", "other | other", "AL ZWJ PicAL", "CR | ZWJ Pic"):
+                     "WS WS WS", "WS Ex | WS", "WS | AL", "other | other", "AL ZWJ PicAL", "CR | ZWJ Pic", "ZWJ | PicNL", "AL ZWJ | PicNL | AL"):
             self.held(each)
 
     def test_hangul_is_no_picture(self):
@@ -58,7 +60,7 @@ class WordTest(unittest.TestCase):
 
     def test_hebrew_quotes(self):
         for each in ("HL SQ", "HL SQ | other", "HL Ex SQ Ex", "HL DQ HL", "HL DQ Ex HL", "HL Ex DQ HL", "HL | DQ", "HL | DQ | AL",
-                     "AL | DQ | HL", "HL | DQ | DQ | HL", "HL SQ HL", "HL SQ | Nu", "HL SQ | DQ | HL"):
+                     "AL | DQ | HL", "HL | other | HL", "HL | MN | HL", "HL | DQ | DQ | HL", "HL SQ HL", "HL SQ | Nu", "HL SQ | DQ | HL"):
             self.held(each)
 
     def test_digits(self):
@@ -83,8 +85,9 @@ class WordTest(unittest.TestCase):
 
     def test_random_texts(self):
         chance = random.Random(6)
-        for size in [3, 4, 5, 6] * 60 + [14] * 40:
-            classes = [chance.choice([0, 1, 2, 3, 4, 5, 6] + list(range(7, 19)) * 2 + [-1]) for k in range(size)]
+        for size in [3, 4, 5, 6] * 150 + [14] * 60:
+            some = chance.sample(range(-1, 19), 4)
+            classes = [chance.choice(some) for k in range(size)]
             text = [PICTURE if number < 0 else FIRST + number for number in classes]
             model = words([max(number, 0) for number in classes], [number < 0 for number in classes])
             self.assertEqual(borders(BOOK, 2, text), model, classes)
