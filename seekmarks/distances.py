@@ -1,6 +1,11 @@
-"""The least costs of making one row of units another."""
+"""The least costs of making one row of units another, and the steps that make it so."""
 
 MOST_COST = 65535
+
+KEPT = 0
+PUT_IN_PLACE = 1
+TAKEN_OUT = 2
+PUT_IN = 3
 
 
 class Costs:
@@ -62,6 +67,46 @@ class Table:
 
 def distance(costs, s, t):
     return Table(costs, s, t).ways[0][0]
+
+
+def longest_common(s, t):
+    """How many units the longest common row has.
+
+    By other as two gaps, nothing gains by putting a unit in another's place: the least cost takes
+    out and puts in just what is not common.
+    """
+    return (len(s) + len(t) - distance(Costs(1, 2, 0), s, t)) // 2
+
+
+def step_at(table, i, j):
+    """The first step with which the least cost from i and j on can still be met."""
+    least = table.ways[i][j]
+    gap = table.costs.gap
+    if i < len(table.s) and j < len(table.t):
+        if table.s[i] == table.t[j]:
+            # What is alike at the fronts can always be kept: no other step leads to less.
+            return KEPT
+        if least == table.ways[i + 1][j + 1] + table.costs.other:
+            return PUT_IN_PLACE
+    if i < len(table.s) and least == table.ways[i + 1][j] + gap:
+        return TAKEN_OUT
+    return PUT_IN
+
+
+def alignment(costs, s, t):
+    """The steps from the fronts that make s what t is, at the least cost; there is no swap."""
+    table = Table(costs, s, t)
+    steps = []
+    i = 0
+    j = 0
+    while i < len(s) or j < len(t):
+        step = step_at(table, i, j)
+        steps.append(step)
+        if step != PUT_IN:
+            i += 1
+        if step != TAKEN_OUT:
+            j += 1
+    return steps
 
 
 def nearest_beginning(ways, limit):

@@ -1,8 +1,10 @@
-"""The calls: a book taken, needles found in texts, and distances of texts."""
+"""The calls: a book taken, needles found in texts, distances of texts, and what is between them."""
 
 from seekmarks.book import Book
 from seekmarks.borders import borders, unit_marks
-from seekmarks.distances import Costs, costs_fit, distance, near
+from seekmarks.columns import column_fits, next_column
+from seekmarks.differences import as_row, changes_between, patched
+from seekmarks.distances import Costs, alignment, costs_fit, distance, longest_common, near
 from seekmarks.forms import mark
 from seekmarks.judging import judge
 from seekmarks.places import first_from, last_to, places, without_overlap
@@ -12,6 +14,7 @@ from seekmarks.scalars import are_scalars
 
 MOST_OF_BOOK = 8192
 MOST_OF_TEXT = 48
+MOST_OF_DIFFERENCES = 512
 LAST_LIKE = 3
 LAST_KIND = 3
 
@@ -78,6 +81,20 @@ class Seeker:
             return self.tell_distance(reader)
         if number == 5:
             return self.find_near(reader)
+        return self.answer_between(number, reader)
+
+    def answer_between(self, number, reader):
+        """The calls that tell what is between two texts."""
+        if number == 6:
+            return self.align_texts(reader)
+        if number == 7:
+            return self.tell_common(reader)
+        if number == 8:
+            return self.tell_differences(reader)
+        if number == 9:
+            return self.patch_text(reader)
+        if number == 10:
+            return self.tell_column(reader)
         raise NotImplementedError(f"no such call: {number}")
 
     def take_book(self, reader):
@@ -142,6 +159,49 @@ class Seeker:
             return [0]
         beginning, end, least = found
         return [1, cuts[beginning], cuts[end], least]
+
+    def align_texts(self, reader):
+        like, kind, gap, other = reader.take_numbers(4)
+        s = reader.take_row()
+        t = reader.take_row()
+        check_alike(like, kind, s, t)
+        costs = Costs(gap, other, 0)
+        check_told(costs_fit(costs))
+        steps = alignment(costs, self.marks_of(like, kind, s), self.marks_of(like, kind, t))
+        return [0, len(steps)] + steps
+
+    def tell_common(self, reader):
+        like, kind = reader.take_numbers(2)
+        s = reader.take_row()
+        t = reader.take_row()
+        check_alike(like, kind, s, t)
+        return [longest_common(self.marks_of(like, kind, s), self.marks_of(like, kind, t))]
+
+    def tell_differences(self, reader):
+        kind = reader.take_number()
+        s = reader.take_row()
+        t = reader.take_row()
+        check_alike(0, kind, s, t)
+        changes = changes_between(self.marks_of(0, kind, s), self.marks_of(0, kind, t))
+        row = as_row(len(s), len(t), changes)
+        return [0, len(row)] + row
+
+    def patch_text(self, reader):
+        undo = reader.take_number()
+        s = reader.take_row()
+        differences = reader.take_row()
+        if len(s) > MOST_OF_TEXT or len(differences) > MOST_OF_DIFFERENCES:
+            raise TooLong()
+        check_told(undo <= 1 and are_scalars(s))
+        made = patched(s, differences, undo)
+        return [0, len(made)] + made
+
+    def tell_column(self, reader):
+        plus, minus, alike, above = reader.take_numbers(4)
+        if not column_fits(plus, minus, above):
+            return [2]
+        new_plus, new_minus, across = next_column(plus, minus, alike, above)
+        return [0, new_plus, new_minus, across]
 
 
 def answer_or_refuse(seeker, reader):

@@ -2,7 +2,7 @@
 
 
 class TooLong(ValueError):
-    """A text or a book has more numbers than are taken (-6)."""
+    """A text, a book or a row of differences has more numbers than are taken (-6)."""
 
 
 class NotAsTold(ValueError):
@@ -14,7 +14,7 @@ class AboveLimit(ValueError):
 
 
 class BrokenRule(ValueError):
-    """A book breaks a rule (-5)."""
+    """A book breaks a rule in a record, or a row of differences in a change (-5)."""
 
     def __init__(self, rule, record):
         ValueError.__init__(self, rule, record)

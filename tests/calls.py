@@ -90,6 +90,26 @@ def near(p, t, like=0, kind=0, gap=1, other=1, swap=0, start=0, limit=0):
     return [5, like, kind, gap, other, swap, start, limit] + row(scalars(p)) + row(scalars(t))
 
 
+def align(s, t, like=0, kind=0, gap=1, other=1):
+    return [6, like, kind, gap, other] + row(scalars(s)) + row(scalars(t))
+
+
+def common(s, t, like=0, kind=0):
+    return [7, like, kind] + row(scalars(s)) + row(scalars(t))
+
+
+def diff(s, t, kind=0):
+    return [8, kind] + row(scalars(s)) + row(scalars(t))
+
+
+def patch(s, differences, undo=0):
+    return [9, undo] + row(scalars(s)) + row(differences)
+
+
+def column(plus, minus, alike, above):
+    return [10, plus, minus, alike, above]
+
+
 def parted(numbers):
     """The answers, a list each."""
     found = []
@@ -118,6 +138,12 @@ def ask_by(rows, *calls):
 
 def judged(rows):
     return ask(book(rows))[0]
+
+
+def counted(answer):
+    """The row that align, diff or patch answers, behind how many numbers it has."""
+    assert answer[0] == 0 and answer[1] == len(answer) - 2, answer
+    return answer[2:]
 
 
 def pairs(answer):

@@ -1,6 +1,7 @@
 """What the document tells, written a second time and otherwise, to hold the program's answers against."""
 
 import heapq
+import itertools
 import re
 
 
@@ -81,6 +82,47 @@ def nearest(borders, start, limit, cost):
         return None
     b, least, a = min(found)
     return (-a, b, least)
+
+
+def ways_through(s, t):
+    """All rows of steps from the fronts that make one row of units another."""
+    if not s and not t:
+        yield ()
+    if s and t:
+        for rest in ways_through(s[1:], t[1:]):
+            yield (0 if s[0] == t[0] else 1,) + rest
+    if s:
+        for rest in ways_through(s[1:], t):
+            yield (2,) + rest
+    if t:
+        for rest in ways_through(s, t[1:]):
+            yield (3,) + rest
+
+
+def steps_cost(steps, gap, other):
+    return sum((0, other, gap, gap)[step] for step in steps)
+
+
+def aligned(s, t, gap, other):
+    """Of all rows of steps one of the least cost, of these the first by its steps: 0 or 1, then 2, then 3."""
+    return list(min(ways_through(s, t), key=lambda steps: (steps_cost(steps, gap, other), [max(step, 1) for step in steps])))
+
+
+def rows_within(row):
+    """All rows that units of this one make in its order, others left out."""
+    return {tuple(part) for size in range(len(row) + 1) for part in itertools.combinations(row, size)}
+
+
+def longest_common(s, t):
+    return max(len(row) for row in rows_within(s) & rows_within(t))
+
+
+def column_behind(old, alike, above):
+    """A column of distances with all costs 1 behind another, from its first row on."""
+    new = [old[0] + above]
+    for row, same in enumerate(alike):
+        new.append(min(old[row + 1] + 1, new[row] + 1, old[row] + (0 if same else 1)))
+    return new
 
 
 CLUSTER = re.compile(
