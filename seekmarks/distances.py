@@ -23,10 +23,19 @@ def costs_fit(costs):
     return costs.swap == 0 or costs.gap <= costs.swap <= MOST_COST
 
 
+def numbered(s, t):
+    """Both rows with a number for each unit, the same for those that are alike; units themselves may be long."""
+    numbers = {}
+    s_numbers = [numbers.setdefault(unit, len(numbers)) for unit in s]
+    t_numbers = [numbers.setdefault(unit, len(numbers)) for unit in t]
+    return (s_numbers, t_numbers)
+
+
 class Table:
     """Least costs from the backs to the fronts: ways[i][j] makes s from i on what t is from j on."""
 
-    def __init__(self, costs, s, t):
+    def __init__(self, costs, s_units, t_units):
+        s, t = numbered(s_units, t_units)
         self.costs = costs
         self.s = s
         self.t = t

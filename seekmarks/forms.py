@@ -50,27 +50,35 @@ def apart_for_compatibility(book, scalar):
 
 
 def all_apart_for_compatibility(book, text):
+    # A mark may have some hundred thousand scalars, most of them the same few: each is asked for once.
+    known = {}
     parts = []
     for scalar in text:
-        parts.extend(apart_for_compatibility(book, scalar))
+        if scalar not in known:
+            known[scalar] = apart_for_compatibility(book, scalar)
+        parts.extend(known[scalar])
     return parts
 
 
 def marks_in_order(book, text):
+    classes = {}
     ordered = []
     moving = []
     for scalar in text:
-        if book.value_at(COMBINING, scalar) > 0:
+        if scalar not in classes:
+            classes[scalar] = book.value_at(COMBINING, scalar)
+        if classes[scalar] > 0:
             moving.append(scalar)
-        else:
-            ordered.extend(by_class(book, moving))
-            ordered.append(scalar)
+            continue
+        if moving:
+            ordered.extend(by_class(classes, moving))
             moving = []
-    return ordered + by_class(book, moving)
+        ordered.append(scalar)
+    return ordered + by_class(classes, moving)
 
 
-def by_class(book, marks):
-    return sorted(marks, key=lambda scalar: book.value_at(COMBINING, scalar))
+def by_class(classes, marks):
+    return sorted(marks, key=lambda scalar: classes[scalar])
 
 
 def form_d(book, text):

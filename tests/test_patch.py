@@ -47,10 +47,6 @@ class MadeTest(unittest.TestCase):
 
 
 class FaultTest(unittest.TestCase):
-    def held(self, text, row, *fault):
-        """That the row has this fault, by a text that it would be for."""
-        self.assertEqual(told((text, row)), [[-5, *fault]], row)
-
     def held_both_ways(self, row, *fault):
         """That the row has this fault by itself, whatever text it is for and done or undone."""
         for text in ("", "a", "ab", "abcd"):
@@ -92,6 +88,8 @@ class FaultTest(unittest.TestCase):
         for place, answer in ((0, [-5, 5, 1]), (1, [-5, 5, 1]), (2, [-5, 5, 1]), (3, [0, 2, C, X]), (4, [0, 3, C, D, X])):
             row = [4, 2, 0, 2, 0, A, B, place, 1, 1, D, X] if place < 4 else [4, 3, 0, 2, 0, A, B, place, 0, 1, X]
             self.assertEqual(ask(patch("abcd", row)), [answer], place)
+            if answer[0] == -5:
+                self.held_both_ways(row, 5, 1)
 
     def test_5_behind_what_only_puts_in(self):
         for place, answer in ((0, [-5, 5, 1]), (1, [-5, 5, 1]), (2, [0, 4, A, X, B, Y])):
@@ -104,17 +102,17 @@ class FaultTest(unittest.TestCase):
 
     def test_5_ends_at_and_behind_the_texts_end(self):
         self.assertEqual(ask(patch("ab", [2, 1, 1, 1, 0, B]), patch("ab", [2, 3, 2, 0, 1, X])), [[0, 1, A], [0, 3, A, B, X]])
-        self.held("ab", [2, 0, 1, 2, 0, B, C], 5, 0)
-        self.held("ab", [2, 1, 2, 1, 0, C], 5, 0)
-        self.held("ab", [2, 3, 3, 0, 1, X], 5, 0)
-        self.held("ab", [2, 3, MOST, 0, 1, X], 5, 0)
-        self.held("", [0, 1, 1, 0, 1, X], 5, 0)
-        self.held("abcd", [4, 3, 0, 1, 0, A, 3, 2, 2, D, D, X, X], 5, 1)
+        self.held_both_ways([2, 0, 1, 2, 0, B, C], 5, 0)
+        self.held_both_ways([2, 1, 2, 1, 0, C], 5, 0)
+        self.held_both_ways([2, 3, 3, 0, 1, X], 5, 0)
+        self.held_both_ways([2, 3, MOST, 0, 1, X], 5, 0)
+        self.held_both_ways([0, 1, 1, 0, 1, X], 5, 0)
+        self.held_both_ways([4, 3, 0, 1, 0, A, 3, 2, 2, D, D, X, X], 5, 1)
 
     def test_5_goes_by_the_number_that_is_told(self):
         # By its own numbers this row is whole; that the text is shorter is told later.
-        self.held("ab", [3, 4, 3, 0, 1, X], 8, 0)
-        self.held("abc", [2, 3, 3, 0, 1, X], 5, 0)
+        self.assertEqual(told(("ab", [3, 4, 3, 0, 1, X])), [[-5, 8, 0]])
+        self.held_both_ways([2, 3, 3, 0, 1, X], 5, 0)
 
     def test_6_no_scalar(self):
         for number in NO_SCALARS:
@@ -162,8 +160,10 @@ class FirstFaultTest(unittest.TestCase):
         rows = (([2, 9, 9, 9, 9], 3), ([2, 9, 9, 0, 0], 4), ([2, 9, 9, 1, 0, 55296], 5), ([2, 9, 1, 1, 0, 55296], 6), ([2, 9, 1, 1, 0, A], 7),
                 ([2, 1, 1, 1, 0, A], 8))
         for row, rule in rows:
-            self.assertEqual(told(("abc", row)), [[-5, rule, 0]])
+            for undo in (0, 1):
+                self.assertEqual(told(("abc", row), undo=undo), [[-5, rule, 0]])
         self.assertEqual(told(("ab", [2, 1, 1, 1, 0, A])), [[-5, 9, 0]])
+        self.assertEqual(told(("ab", [1, 2, 1, 0, 1, A]), undo=1), [[-5, 9, 0]])
 
     def test_of_several_changes_the_first_ones(self):
         early = [0, 1, 0, 55296]
